@@ -40,7 +40,7 @@ func VecText(v []int64) string {
 	}
 	words := make([]string, len(v))
 	for i, x := range v {
-		words[i] = strconv.FormatInt(x, 10)
+		words[i] = numberText(x)
 	}
 	return strings.Join(words, ",")
 }
@@ -142,6 +142,10 @@ func (v vector) turned() vector {
 	return v
 }
 
+func numberText(x int64) string {
+	return strconv.FormatInt(x, 10)
+}
+
 // readNumber reads what is in decimal. Telling the number again refuses all
 // that ParseInt takes beside it: a plus, noughts ahead, -0.
 func readNumber(s string) (int64, bool) {
@@ -149,7 +153,7 @@ func readNumber(s string) (int64, bool) {
 		return 0, false
 	}
 	x, err := strconv.ParseInt(s, 10, 64)
-	if err != nil || strconv.FormatInt(x, 10) != s {
+	if err != nil || numberText(x) != s {
 		return 0, false
 	}
 	return x, true

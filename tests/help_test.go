@@ -92,6 +92,19 @@ func edgeVectors() [][]int64 {
 	return l
 }
 
+// bend leaves a byte out, puts one in, turns or doubles one, at any place.
+func (d *dice) bend(s string, bytes string) string {
+	for range 1 + d.upTo(2) {
+		at := int(d.upTo(int64(len(s))))
+		one := bytes[d.upTo(int64(len(bytes))):][:1]
+		s = []string{s[:at] + s[at+1:], s[:at] + one + s[at:], s[:at] + one + s[at+1:], s + one, s[:at+1] + s[at:]}[d.upTo(5)]
+		if s == "" {
+			break
+		}
+	}
+	return s
+}
+
 func TestHelpers(t *testing.T) {
 	v := []int64{1, 2}
 	r := roomy(v)

@@ -253,7 +253,7 @@ func TestVecNeg(t *testing.T) {
 	}
 }
 
-func TestVectorsLeaveArgumentsAlone(t *testing.T) {
+func TestPromise15VectorsLeaveArgumentsAlone(t *testing.T) {
 	a, b := []int64{1, -2, 3}, []int64{4, 5, -6}
 	for _, call := range []func(v, w []int64) []int64{
 		func(v, w []int64) []int64 { return []int64{impl.DistOf(v, w)} },

@@ -182,7 +182,7 @@ func TestRangesOfEdges(t *testing.T) {
 	}
 }
 
-func TestRangesLeaveArgumentsAlone(t *testing.T) {
+func TestPromise15RangesLeaveArgumentsAlone(t *testing.T) {
 	a, b := []int64{1, -2, 3}, []int64{4, 5, -6}
 	l := [][]int64{roomy(a), roomy(b), {9, 9, 9}}
 	short := l[:2]

@@ -264,7 +264,7 @@ func TestBoundsWrong(t *testing.T) {
 	}
 }
 
-func TestBoundsLeaveArgumentsAlone(t *testing.T) {
+func TestPromise15BoundsLeaveArgumentsAlone(t *testing.T) {
 	first := []impl.Range{{Lo: 1, Hi: 4}, {Lo: -3, Hi: 0}, {Lo: 9, Hi: 9}, {Lo: 8, Hi: 8}}
 	second := []impl.Range{{Lo: 3, Hi: 5}, {Lo: -9, Hi: 2}, {Lo: 7, Hi: 7}, {Lo: 6, Hi: 6}}
 	v := []int64{2, -1}

@@ -437,7 +437,7 @@ func TestDriftOfWrong(t *testing.T) {
 	}
 }
 
-func TestBooksLeaveArgumentsAlone(t *testing.T) {
+func TestPromise15BooksLeaveArgumentsAlone(t *testing.T) {
 	first := []impl.Range{{Lo: -10, Hi: 9}, {Lo: 0, Hi: 0}, {Lo: 7, Hi: 7}, {Lo: 8, Hi: 8}}
 	whole := slices.Clone(first)
 	book := whole[:2]

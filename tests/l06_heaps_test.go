@@ -355,7 +355,7 @@ func TestHeapSorted(t *testing.T) {
 	}
 }
 
-func TestHeapsLeaveArgumentsAlone(t *testing.T) {
+func TestPromise15HeapsLeaveArgumentsAlone(t *testing.T) {
 	first := []impl.Near{{Id: 9, Dist: 9}, {Id: 5, Dist: 5}, {Id: 7, Dist: 7}, {Id: 77, Dist: 77}, {Id: 78, Dist: 78}}
 	for _, k := range []int64{3, 4} {
 		for _, n := range []impl.Near{{Id: 1, Dist: 1}, {Id: 8, Dist: 8}, {Id: 99, Dist: 99}} {

@@ -533,7 +533,7 @@ func spoilItems(l []impl.Item) bool {
 	return alone
 }
 
-func TestItemsLeaveArgumentsAlone(t *testing.T) {
+func TestPromise15ItemsLeaveArgumentsAlone(t *testing.T) {
 	first := []impl.Item{{Id: 10, Tags: 3, Vec: []int64{1, 2}}, {Id: 20, Tags: 1, Vec: []int64{3, 4}}, {Id: 30, Tags: 3, Vec: []int64{5, 6}}}
 	v := []int64{8, 9}
 	for _, id := range []int64{5, 10, 15, 20, 25, 30, 35} {

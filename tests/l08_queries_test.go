@@ -401,7 +401,7 @@ func TestRankOfWrong(t *testing.T) {
 	})
 }
 
-func TestQueriesLeaveArgumentsAlone(t *testing.T) {
+func TestPromise15QueriesLeaveArgumentsAlone(t *testing.T) {
 	first := []impl.Item{{Id: 10, Tags: 3, Vec: []int64{1, 2}}, {Id: 20, Tags: 1, Vec: []int64{0, 0}}, {Id: 30, Tags: 3, Vec: []int64{2, 1}}}
 	marked := []impl.Near{{Id: 4, Dist: 9}, {Id: 1, Dist: 3}, {Id: 77, Dist: 77}, {Id: 2, Dist: 3}, {Id: 78, Dist: 78}}
 	v := []int64{0, 0}

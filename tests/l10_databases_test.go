@@ -543,15 +543,7 @@ func TestReadCmdOfBentTexts(t *testing.T) {
 	d := &dice{102}
 	edges, patterns := edgeCmds(), cmdPatterns()
 	for n := 0; n < 20000; n++ {
-		s := impl.CmdText(edges[d.upTo(int64(len(edges)))])
-		for range 1 + d.upTo(2) {
-			at := int(d.upTo(int64(len(s))))
-			one := string(bytes[d.upTo(int64(len(bytes)))])
-			s = []string{s[:at] + s[at+1:], s[:at] + one + s[at:], s[:at] + one + s[at+1:], s + one, s[:at+1] + s[at:]}[d.upTo(5)]
-			if s == "" {
-				break
-			}
-		}
+		s := d.bend(impl.CmdText(edges[d.upTo(int64(len(edges)))]), bytes)
 		want, is := readAsTold(patterns, s)
 		if !is {
 			want = impl.Cmd{}
